@@ -269,16 +269,23 @@ func CanCast(from int64, to int64, rule int64) bool {
 }
 
 func Apply(op int64, dt int64, a Cell, b Cell) Applied {
-	if op < OpAdd || op > OpShr {
-		return Applied{Code: ErrOp}
-	}
-	if !opFits(op, dt) {
-		return Applied{Code: ErrDType}
+	if code := opCode(op, dt); code != 0 {
+		return Applied{Code: code}
 	}
 	if !ValidCell(dt, a) || !ValidCell(dt, b) {
 		return Applied{Code: ErrCell}
 	}
 	return Applied{DType: resultDType(op, dt), Cell: applyCells(op, dt, a, b)}
+}
+
+func opCode(op int64, dt int64) int64 {
+	switch {
+	case op < OpAdd || op > OpShr:
+		return ErrOp
+	case !opFits(op, dt):
+		return ErrDType
+	}
+	return 0
 }
 
 func opFits(op int64, dt int64) bool {
@@ -426,16 +433,23 @@ func complexProduct(a complex128, b complex128) complex128 {
 }
 
 func ApplyUnary(op int64, dt int64, a Cell) Applied {
-	if op < UnNeg || op > UnConj {
-		return Applied{Code: ErrOp}
-	}
-	if !unaryFits(op, dt) {
-		return Applied{Code: ErrDType}
+	if code := unaryCode(op, dt); code != 0 {
+		return Applied{Code: code}
 	}
 	if !ValidCell(dt, a) {
 		return Applied{Code: ErrCell}
 	}
 	return Applied{DType: dt, Cell: unaryCell(op, dt, a)}
+}
+
+func unaryCode(op int64, dt int64) int64 {
+	switch {
+	case op < UnNeg || op > UnConj:
+		return ErrOp
+	case !unaryFits(op, dt):
+		return ErrDType
+	}
+	return 0
 }
 
 func unaryFits(op int64, dt int64) bool {

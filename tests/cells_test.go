@@ -1,7 +1,9 @@
 package tests
 
 import (
+	"maps"
 	"math"
+	"slices"
 	"testing"
 
 	"loop.example/s16388/impl"
@@ -60,7 +62,7 @@ func integerSamples(dt int64) []impl.Cell {
 	values[math.MinInt64+1] = true
 	values[math.MaxInt64-1] = true
 	var out []impl.Cell
-	for i := range values {
+	for _, i := range slices.Sorted(maps.Keys(values)) {
 		if i >= lowest[dt] && i <= highest[dt] {
 			out = append(out, integerCell(i))
 		}
