@@ -100,7 +100,7 @@ func TestTiledLeavesNoWorkerBehind(t *testing.T) {
 		checkCall(t, call)
 	}
 	// A worker that has told that it is done may need a moment more to be gone.
-	for range 100000 {
+	for range 10000000 {
 		if runtime.NumGoroutine() <= before {
 			return
 		}
