@@ -7,7 +7,7 @@ import (
 )
 
 // arrayCall is a call of one of the functions on heaps, with all its arguments, so that one test can go through all functions.
-// What a function has no use for stays the zero value. Put writes out, and its values are a.
+// What a function has no use for stays the zero value. Put writes out, and its values are a; SortAxis writes out, and has no other.
 type arrayCall struct {
 	name    string
 	heap    impl.Heap
@@ -16,13 +16,14 @@ type arrayCall struct {
 	a       impl.Array
 	b       impl.Array
 	out     impl.Array
+	axis    int64
 	index   []int64
 	tile    int64
 	workers int64
 	picks   []int64
 }
 
-var arrayFunctions = []string{"Elementwise", "Tiled", "Unary", "Where", "Take", "Put"}
+var arrayFunctions = []string{"Elementwise", "Tiled", "Unary", "Where", "Take", "Put", "Reduce", "Scan", "SortAxis", "ArgSort", "MatMul", "Solve"}
 
 // run answers for every function in the widest form; Turns is of Tiled alone.
 func (c arrayCall) run() impl.TiledResult {
@@ -40,14 +41,28 @@ func (c arrayCall) run() impl.TiledResult {
 		r = impl.Take(c.heap, c.a, c.index, c.out)
 	case "Put":
 		r = impl.Put(c.heap, c.out, c.index, c.a)
+	case "Reduce":
+		r = impl.Reduce(c.heap, c.op, c.a, c.axis, c.out)
+	case "Scan":
+		r = impl.Scan(c.heap, c.op, c.a, c.axis, c.out)
+	case "SortAxis":
+		r = impl.SortAxis(c.heap, c.out, c.axis)
+	case "ArgSort":
+		r = impl.ArgSort(c.heap, c.a, c.axis, c.out)
+	case "MatMul":
+		r = impl.MatMul(c.heap, c.a, c.b, c.out)
+	case "Solve":
+		r = impl.Solve(c.heap, c.a, c.b, c.out)
 	}
 	return impl.TiledResult{Code: r.Code, Heap: r.Heap}
 }
 
 func (c *arrayCall) arrays() []*impl.Array {
 	switch c.name {
-	case "Unary", "Take", "Put":
+	case "Unary", "Take", "Put", "Reduce", "Scan", "ArgSort":
 		return []*impl.Array{&c.a, &c.out}
+	case "SortAxis":
+		return []*impl.Array{&c.out}
 	case "Where":
 		return []*impl.Array{&c.cond, &c.a, &c.b, &c.out}
 	}
@@ -68,15 +83,26 @@ func (c arrayCall) common() int64 {
 }
 
 func (c arrayCall) resultDType() int64 {
-	switch {
-	case c.name == "Where":
+	switch c.name {
+	case "Elementwise", "Tiled":
+		if c.op == 7 || c.op == 8 {
+			return 1
+		}
 		return c.common()
-	case c.name != "Elementwise" && c.name != "Tiled":
-		return c.dtypeOf(c.a)
-	case c.op == 7 || c.op == 8:
-		return 1
+	case "Where", "MatMul":
+		return c.common()
+	case "Reduce", "Scan":
+		if kinds[c.dtypeOf(c.a)] < 2 && (c.op == 1 || c.op == 3) {
+			return 6
+		}
+	case "SortAxis":
+		return c.dtypeOf(c.out)
+	case "ArgSort":
+		return 6
+	case "Solve":
+		return 8
 	}
-	return c.common()
+	return c.dtypeOf(c.a)
 }
 
 func wantedValidHeap(h impl.Heap) bool {
@@ -165,6 +191,12 @@ func (c arrayCall) ownCodes() []int64 {
 		return list(codeWhere(c.dtypeOf(c.cond) != 1, 4), r.Code, whole.Code, codeWhere(!slices.Equal(whole.Shape, shape), 6))
 	case "Take":
 		return list(codeWhere(!slices.Equal(shape, list(int64(len(c.index)))), 6), wantedIndexCode(c.index, c.a))
+	case "Reduce", "Scan", "SortAxis", "ArgSort":
+		return c.laneCodes()
+	case "MatMul":
+		return c.productCodes()
+	case "Solve":
+		return c.systemCodes()
 	}
 	n := len(wantedPlaces(c.a.View))
 	return list(codeWhere(n != 1 && n != len(c.index), 6), wantedIndexCode(c.index, c.out))
@@ -209,6 +241,12 @@ func (c arrayCall) wantedWrites() ([]int64, []impl.Cell) {
 			out = append(out, impl.ApplyUnary(c.op, c.dtypeOf(c.a), x).Cell)
 		}
 		return places, out
+	case "Reduce", "Scan", "SortAxis", "ArgSort":
+		return c.laneWrites()
+	case "MatMul":
+		return places, c.wantedProduct()
+	case "Solve":
+		return places, c.wantedUnknowns()
 	}
 	var out []impl.Cell
 	left, right := c.spread(c.a), c.spread(c.b)

@@ -173,6 +173,8 @@ func drawnCall(d *draws, name string) arrayCall {
 		c.picks = append(c.picks, d.between(-70, 70))
 	}
 	c.drawIndexes(d)
+	c.drawLanes(d, shape)
+	c.drawMatrices(d)
 	return c
 }
 
@@ -188,11 +190,53 @@ func (c *arrayCall) drawIndexes(d *draws) {
 	}
 }
 
+func (c *arrayCall) drawLanes(d *draws, shape []int64) {
+	switch c.name {
+	case "Reduce", "Scan", "SortAxis", "ArgSort":
+		c.op = d.oneOf(list(1, 3, 5, 6))
+		c.axis = d.below(int64(max(len(shape), 1)))
+		c.a = drawnArray(d, c.heap, c.a.Store, shape)
+		if c.name == "Reduce" && len(shape) > 0 {
+			c.out = drawnArray(d, c.heap, c.out.Store, withoutAxis(shape, c.axis))
+		}
+	}
+}
+
+func (c *arrayCall) drawMatrices(d *draws) {
+	n, k, m := d.oneOf(list(0, 1, 2, 3, 4, 5)), d.oneOf(list(0, 1, 2, 3, 4, 5)), d.oneOf(list(0, 1, 2, 3, 4, 5))
+	switch c.name {
+	case "MatMul":
+		c.a, c.b, c.out = drawnArray(d, c.heap, c.a.Store, list(n, k)), drawnArray(d, c.heap, c.b.Store, list(k, m)), drawnArray(d, c.heap, c.out.Store, list(n, m))
+	case "Solve":
+		for i := range c.heap.Stores {
+			if d.below(12) != 0 {
+				c.heap.Stores[i] = drawnNumbers(d)
+			}
+		}
+		c.a, c.b, c.out = drawnArray(d, c.heap, c.a.Store, list(n, n)), drawnArray(d, c.heap, c.b.Store, list(n)), drawnArray(d, c.heap, c.out.Store, list(n))
+	}
+}
+
+// drawnNumbers has floats of which most systems can be solved, with some special ones among them.
+func drawnNumbers(d *draws) impl.Store {
+	s := impl.Store{DType: 8}
+	special := someSamples(8, 50)
+	rare := d.oneOf(list(6, 60, 600))
+	for range d.between(40, 60) {
+		x := floatCell(float64(d.between(-30, 30)) / float64(d.between(1, 9)))
+		if d.below(rare) == 0 {
+			x = d.cellOf(special)
+		}
+		s.Cells = append(s.Cells, x)
+	}
+	return s
+}
+
 // spoil makes something wrong in a call that was good; now and then nothing.
 func (c *arrayCall) spoil(d *draws) {
 	arrays := c.arrays()
 	a := arrays[d.below(int64(len(arrays)))]
-	switch d.below(11) {
+	switch d.below(12) {
 	case 0:
 		s := &c.heap.Stores[drawnStore(d, c.heap)]
 		s.Cells[0] = d.cellOf(invalidCells(s.DType))
@@ -217,6 +261,8 @@ func (c *arrayCall) spoil(d *draws) {
 		}
 	case 9:
 		c.tile, c.workers = d.oneOf(list(0, 1, 4096, 4097)), d.oneOf(list(0, 1, 64, 65))
+	case 10:
+		c.axis = d.oneOf(list(-1, 1, int64(len(c.laned().View.Shape)), 4, math.MinInt64, math.MaxInt64))
 	}
 }
 

@@ -10,8 +10,8 @@ import (
 
 // P8
 func TestNumbersOfArrays(t *testing.T) {
-	got := list(impl.MaxStores, impl.ErrHeap, impl.ErrArray, impl.ErrShape, impl.ErrIndex, impl.ErrWrite, impl.ErrCast, impl.ErrSize)
-	if !slices.Equal(got, list(64, 1, 2, 6, 8, 9, 10, 16)) {
+	got := list(impl.MaxStores, impl.ErrHeap, impl.ErrArray, impl.ErrAxis, impl.ErrShape, impl.ErrEmpty, impl.ErrIndex, impl.ErrWrite, impl.ErrCast, impl.ErrSingular, impl.ErrSize)
+	if !slices.Equal(got, list(64, 1, 2, 5, 6, 7, 8, 9, 10, 11, 16)) {
 		t.Errorf("%v", got)
 	}
 }
@@ -130,6 +130,14 @@ func TestReadOfManyViews(t *testing.T) {
 	}
 }
 
+// codesOf has the codes of each function, the smallest last. That out of Solve is not of F64 is code 4, so 10 is never the smallest.
+var codesOf = map[string][]int64{
+	"Elementwise": list(10, 9, 6, 4, 3, 2, 1), "Tiled": list(16, 10, 9, 6, 4, 3, 2, 1), "Unary": list(10, 9, 6, 4, 3, 2, 1),
+	"Where": list(10, 9, 6, 4, 2, 1), "Take": list(10, 9, 8, 6, 2, 1), "Put": list(10, 9, 8, 6, 2, 1),
+	"Reduce": list(10, 9, 7, 6, 5, 4, 3, 2, 1), "Scan": list(10, 9, 6, 5, 4, 3, 2, 1), "SortAxis": list(9, 5, 2, 1), "ArgSort": list(10, 9, 6, 5, 2, 1),
+	"MatMul": list(10, 9, 6, 2, 1), "Solve": list(11, 9, 6, 4, 2, 1),
+}
+
 // P8, P9: arguments of all kinds against the oracle, the greater part of them good.
 func TestDrawnCalls(t *testing.T) {
 	seen := map[string]map[int64]int{}
@@ -144,12 +152,8 @@ func TestDrawnCalls(t *testing.T) {
 			seen[name][checkCall(t, c).Code]++
 		}
 	}
-	codes := map[string][]int64{
-		"Elementwise": list(0, 1, 2, 3, 4, 6, 9, 10), "Tiled": list(0, 1, 2, 3, 4, 6, 9, 10, 16), "Unary": list(0, 1, 2, 3, 4, 6, 9, 10),
-		"Where": list(0, 1, 2, 4, 6, 9, 10), "Take": list(0, 1, 2, 6, 8, 9, 10), "Put": list(0, 1, 2, 6, 8, 9, 10),
-	}
-	for name, wanted := range codes {
-		for _, code := range wanted {
+	for _, name := range arrayFunctions {
+		for _, code := range append(list(0), codesOf[name]...) {
 			if seen[name][code] < 5 {
 				t.Errorf("%s: code %d came %d times: %v", name, code, seen[name][code], seen[name])
 			}
@@ -159,10 +163,21 @@ func TestDrawnCalls(t *testing.T) {
 
 // goodCall has code 0, and what spoils it for one code leaves it good for all others.
 func goodCall(name string) arrayCall {
-	return arrayCall{
-		name: name, heap: heapOf(floatStore(8, 1, 2, 3, 4, 5, 6), countingStore(2, 6), integerStore(1, 1, 0, 1, 0, 1, 0)),
+	c := arrayCall{
+		name: name, heap: heapOf(floatStore(8, 1, 2, 3, 4, 5, 6), countingStore(2, 6), integerStore(1, 1, 0, 1, 0, 1, 0), storeOf(9, make([]impl.Cell, 6)...)),
 		op: 1, cond: dense(2, 0, 6), a: dense(0, 0, 6), b: dense(0, 5), out: dense(0, 0, 6), index: list(0, 1, 2, -1, -2, -3), tile: 2, workers: 2,
 	}
+	switch name {
+	case "Reduce":
+		c.a, c.out, c.axis = dense(0, 0, 2, 3), dense(0, 0, 3), 0
+	case "Scan", "SortAxis", "ArgSort":
+		c.a, c.out, c.axis = dense(0, 0, 2, 3), dense(0, 0, 2, 3), 1
+	case "MatMul":
+		c.a, c.b, c.out = dense(0, 0, 2, 3), dense(0, 0, 3, 2), dense(0, 0, 2, 2)
+	case "Solve":
+		c.a, c.b, c.out = dense(0, 0, 2, 2), dense(0, 4, 2), dense(0, 0, 2)
+	}
+	return c
 }
 
 func (c *arrayCall) spoilFor(code int64) {
@@ -170,50 +185,70 @@ func (c *arrayCall) spoilFor(code int64) {
 	case 1:
 		c.heap.Stores = append(c.heap.Stores, integerStore(3, 256))
 	case 2:
-		c.a.View.Offset = 1
+		first := c.arrays()[0]
+		first.View.Offset = -1
 	case 3:
 		c.op = 11
 	case 4:
-		c.cond.Store = 0
-		c.op = 9
-		if c.name == "Unary" {
-			c.op = 2
-		}
+		c.spoilDType()
+	case 5:
+		c.axis = 2
 	case 6:
-		c.out.View.Shape, c.out.View.Strides = list(2, 3), list(3, 1)
+		c.out.View.Shape, c.out.View.Strides = list(6, 1), list(1, 1)
 		if c.name == "Put" {
 			c.index = append(c.index, 0)
 		}
+	case 7:
+		c.op = 5
+		c.a.View.Shape = list(0, 3)
 	case 8:
 		c.index[0] = 6
 	case 9:
 		c.out.View.Strides = make([]int64, len(c.out.View.Strides))
 	case 10:
-		c.out.Store = 1
+		c.out.Store = 2
+	case 11:
+		c.a.View.Strides = list(0, 0)
 	case 16:
 		c.tile = 0
 	}
 }
 
+func (c *arrayCall) spoilDType() {
+	switch c.name {
+	case "Where":
+		c.cond.Store = 0
+	case "Unary":
+		c.op = 2
+	case "Reduce", "Scan":
+		c.op = 6
+		c.a.Store = 3
+		// The result is complex too, and is not to be barred from out.
+		if c.out.Store == 0 {
+			c.out.Store = 3
+		}
+	case "Solve":
+		c.b.Store = 1
+	default:
+		c.op = 9
+	}
+}
+
 // P8
 func TestCodesAloneAndTogether(t *testing.T) {
-	codes := map[string][]int64{
-		"Elementwise": list(10, 9, 6, 4, 3, 2, 1), "Tiled": list(16, 10, 9, 6, 4, 3, 2, 1), "Unary": list(10, 9, 6, 4, 3, 2, 1),
-		"Where": list(10, 9, 6, 4, 2, 1), "Take": list(10, 9, 8, 6, 2, 1), "Put": list(10, 9, 8, 6, 2, 1),
-	}
 	for _, name := range arrayFunctions {
-		for chosen := range 1 << len(codes[name]) {
+		for chosen := range 1 << len(codesOf[name]) {
 			c := goodCall(name)
 			want := int64(0)
 			// The smallest code comes last, so that nothing else takes back what it spoils.
-			for i, code := range codes[name] {
+			for i, code := range codesOf[name] {
 				if chosen>>i&1 == 1 {
 					c.spoilFor(code)
 					want = code
 				}
 			}
 			if got := checkCall(t, c); got.Code != want {
-				t.Errorf("%s, spoilt for %b of %v: code %d, want %d", name, chosen, codes[name], got.Code, want)
+				t.Errorf("%s, spoilt for %b of %v: code %d, want %d", name, chosen, codesOf[name], got.Code, want)
 			}
 		}
 	}
@@ -223,7 +258,7 @@ func TestCodesAloneAndTogether(t *testing.T) {
 func TestEachArrayIsLookedAt(t *testing.T) {
 	for _, name := range arrayFunctions {
 		for i := range goodCallArrays(name) {
-			for _, wrong := range []impl.Array{dense(3, 0, 6), dense(-1, 0, 6), dense(0, 1, 6), dense(0, 0, 7), arrayOf(0, viewOf(list(6), nil, 0)), arrayOf(0, viewOf(ones(5), ones(5), 0)), arrayOf(0, viewOf(list(0), list(1), 4097))} {
+			for _, wrong := range []impl.Array{dense(4, 0, 6), dense(-1, 0, 6), dense(0, 1, 6), dense(0, 0, 7), arrayOf(0, viewOf(list(6), nil, 0)), arrayOf(0, viewOf(ones(5), ones(5), 0)), arrayOf(0, viewOf(list(0), list(1), 4097))} {
 				c := goodCall(name)
 				*c.arrays()[i] = wrong
 				if got := checkCall(t, c); got.Code != 2 {
